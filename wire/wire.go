@@ -5,6 +5,7 @@ import (
 	"strings"
 
 	"yokefellow/api"
+	"yokefellow/bounds"
 )
 
 // The sign of a number n stands at n+1, so that -1 has one, too.
@@ -18,7 +19,7 @@ const nodeMask = api.Nodes - 1
 // Good is what is wrong with a word.
 func Good(w api.Word) api.Errno {
 	switch {
-	case !within(w.Kind, api.Propose, api.Promise):
+	case !bounds.Within(w.Kind, api.Propose, api.Promise):
 		return api.ErrKind
 	case !inBounds(w):
 		return api.ErrRange
@@ -68,13 +69,11 @@ func Leader(height, round int) int {
 }
 
 func inBounds(w api.Word) bool {
-	if !within(w.From, 0, api.Nodes-1) || !within(w.Height, 0, api.Heights-1) || !within(w.Round, 0, api.Rounds-1) {
+	if !bounds.Node(w.From) || !bounds.Height(w.Height) || !bounds.Round(w.Round) {
 		return false
 	}
 	if w.Kind == api.Propose {
-		return within(w.Value, 1, api.Values) && within(w.Valid, -1, w.Round-1)
+		return bounds.Value(w.Value) && bounds.Within(w.Valid, -1, w.Round-1)
 	}
-	return within(w.Value, 0, api.Values)
+	return bounds.Within(w.Value, 0, api.Values)
 }
-
-func within(n, least, most int) bool { return least <= n && n <= most }
